@@ -1,0 +1,1 @@
+"""Skybars: bars of any heights in a row."""
