@@ -16,11 +16,15 @@ def reach_starts(bars):
     return starts
 
 
+# What was told of a row from its other end, one place for each bar, told of the row itself.
+def turned(places):
+    final = len(places) - 1
+    return [final - place for place in reversed(places)]
+
+
 def reach_ends(bars):
     # Seen from the other end of the row, where a reach ends is where it starts.
-    final = len(bars) - 1
-    mirrored = reach_starts(list(reversed(bars)))
-    return [final - start for start in reversed(mirrored)]
+    return turned(reach_starts(list(reversed(bars))))
 
 
 def reaches(bars):

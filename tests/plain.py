@@ -1,4 +1,4 @@
-"""Points [2] to [4] counted out word by word, slowly, with nothing of the program."""
+"""Points [2] to [7] counted out word by word, slowly, with nothing of the program."""
 
 
 def sees(bars, one, other):
@@ -74,3 +74,80 @@ def as_told(bars, first, many, high, around):
         if bars[place] * len(range(pair[0], pair[1] + 1)) > many * high:
             return False
     return True
+
+
+def levels(bars):
+    return [min(max(bars[:place + 1]), max(bars[place:])) for place in range(len(bars))]
+
+
+def water(bars):
+    """Every piece of water by itself: one high and one place wide, with a bar as high as it or higher on both sides."""
+    pieces = 0
+    for place in range(len(bars)):
+        for high in range(bars[place] + 1, max(bars) + 1):
+            held_ahead = any(bar >= high for bar in bars[:place + 1])
+            held_behind = any(bar >= high for bar in bars[place:])
+            if held_ahead and held_behind:
+                pieces += 1
+    return pieces
+
+
+def highest(bars, places):
+    return [place for place in places if all(bars[other] <= bars[place] for other in places)]
+
+
+def rims(bars):
+    count = len(bars)
+    return [
+        (min(highest(bars, range(0, place + 1))), max(highest(bars, range(place, count)))) for place in range(count)
+    ]
+
+
+def link(bars, place):
+    lower = [ahead for ahead in range(place) if bars[ahead] < bars[place]]
+    return lower[-1] if lower else -1
+
+
+def links(bars):
+    return [link(bars, place) for place in range(len(bars))]
+
+
+def are_links(numbers):
+    return all(number in range(-1, place) for place, number in enumerate(numbers))
+
+
+def is_crossed(numbers, first, second):
+    """Whether these places are as point [6] tells of Crossed."""
+    places = range(len(numbers))
+    if not are_links(numbers) or first not in places or second not in places or first >= second:
+        return False
+    return numbers[second] > numbers[first] and numbers[second] < first
+
+
+def crossings(numbers):
+    places = range(len(numbers))
+    return [(first, second) for first in places for second in places if is_crossed(numbers, first, second)]
+
+
+def tree(bars):
+    parents = [None] * len(bars)
+
+    def hang(start, end, above):
+        if start == end:
+            return
+        least = min(bars[start:end])
+        top = [place for place in range(start, end) if bars[place] == least][0]
+        parents[top] = above
+        hang(start, top, top)
+        hang(top + 1, end, top)
+
+    hang(0, len(bars), -1)
+    return parents
+
+
+def depth(parents, place):
+    steps = 0
+    while parents[place] != -1:
+        place = parents[place]
+        steps += 1
+    return steps

@@ -1,4 +1,4 @@
-"""Rows of bars to try, and values that are no bars."""
+"""Rows of bars, lists of links and of numbers to try, and values that are none."""
 
 from array import array
 from decimal import Decimal
@@ -46,6 +46,18 @@ def product_rows(count, heights):
         yield list(row)
 
 
+def number_lists_up_to(length, least, most):
+    for count in range(length + 1):
+        for numbers in product(range(least, most + 1), repeat=count):
+            yield list(numbers)
+
+
+def link_lists(count):
+    """Every list of links of this length."""
+    for numbers in product(*[range(-1, place) for place in range(count)]):
+        yield list(numbers)
+
+
 class Stubborn:
     """Fails at whatever is asked of it."""
 
@@ -91,4 +103,30 @@ def no_bars():
         told.append([wrong, 2, 3])
         told.append([1, wrong, 3])
         told.append([1, 2, wrong])
+    return told
+
+
+def no_links():
+    """Values that are no list of links."""
+    told = no_lists() + [holding_itself()]
+    for wrong in no_wholes() + [-2, -3, -HIGHEST, 3, 4, 10 ** 5000, -10 ** 5000]:
+        told.append([wrong])
+        told.append([wrong, -1, -1])
+        told.append([-1, wrong, -1])
+        told.append([-1, -1, wrong])
+        told.append([-1, 0, wrong])
+    told.extend([[0], [0, 0], [1, -1], [-1, 1], [-1, 0, 2], [-1, 0, 1, 3], [-1, -1, -1, 4]])
+    return told
+
+
+def no_trees():
+    """Values that are no tree of any bars, by their kind or by a number outside the list."""
+    told = no_lists() + [holding_itself()]
+    for wrong in no_wholes() + [-2, -3, -HIGHEST, 3, 4, 10 ** 5000, -10 ** 5000]:
+        told.append([wrong])
+        told.append([wrong, 0, 1])
+        told.append([1, -1, wrong])
+        told.append([wrong, -1, 1])
+        told.append([-1, 0, wrong])
+        told.append([1, wrong, 1])
     return told

@@ -117,12 +117,6 @@ class Sees(unittest.TestCase):
 
 
 class Refusals(unittest.TestCase):
-    def test_what_is_no_list_of_bars(self):
-        for asked in [reaches, seen_ahead, shown]:
-            for number, wrong in enumerate(no_bars()):
-                with self.subTest(asked=asked.__name__, number=number):
-                    self.assertRaises(BadBars, asked, wrong)
-
     def test_sees_refuses_bars_first(self):
         for number, wrong in enumerate(no_bars()):
             with self.subTest(number=number):
@@ -149,40 +143,6 @@ class Refusals(unittest.TestCase):
 
     def test_bounds_are_taken(self):
         self.assertEqual(shown([0, HIGHEST]), [0, 1])
-
-
-class NothingKept(unittest.TestCase):
-    def test_bars_are_not_changed(self):
-        for bars in small_rows():
-            before = list(bars)
-            reaches(bars)
-            seen_ahead(bars)
-            shown(bars)
-            if len(bars) > 1:
-                sees(bars, 0, len(bars) - 1)
-            self.assertEqual(bars, before)
-
-    def test_told_lists_are_new(self):
-        for asked in [reaches, seen_ahead, shown]:
-            for bars in [[], [0], [0, 1], [2, 1, 2]]:
-                with self.subTest(asked=asked.__name__, bars=bars):
-                    before = list(bars)
-                    told = asked(bars)
-                    as_told = list(told)
-                    self.assertIsNot(told, bars)
-                    told.append("mine")
-                    told.reverse()
-                    self.assertEqual(bars, before)
-                    self.assertEqual(asked(bars), as_told)
-
-    def test_later_changes_of_bars_change_nothing_told(self):
-        for asked in [reaches, seen_ahead, shown]:
-            bars = [0, 1, 2]
-            told = asked(bars)
-            as_told = list(told)
-            bars.reverse()
-            bars.append(9)
-            self.assertEqual(told, as_told)
 
 
 if __name__ == "__main__":

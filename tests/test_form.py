@@ -115,6 +115,44 @@ class Form(unittest.TestCase):
             if isinstance(node.func, ast.Attribute):
                 self.assertIn(node.func.attr, METHODS | set(own) | set(["__init__"]), (path, node.lineno))
 
+    def test_no_name_like_a_class_or_an_import(self):
+        for path, tree in trees():
+            taken = [node.name for node in tree.body if isinstance(node, ast.ClassDef)]
+            for node in tree.body:
+                if isinstance(node, ast.ImportFrom):
+                    taken.extend(drawn.name for drawn in node.names)
+            for node in ast.walk(tree):
+                if isinstance(node, ast.arg):
+                    self.assertNotIn(node.arg, taken, (path, node.lineno))
+                if isinstance(node, ast.Name) and isinstance(node.ctx, ast.Store):
+                    self.assertNotIn(node.id, taken, (path, node.lineno))
+
+    def test_no_name_bound_twice_at_a_files_top(self):
+        for path, tree in trees():
+            bound = [node.name for node in tree.body if isinstance(node, (ast.FunctionDef, ast.ClassDef))]
+            bound += [node.targets[0].id for node in tree.body if isinstance(node, ast.Assign)]
+            for node in tree.body:
+                if isinstance(node, ast.ImportFrom):
+                    bound.extend(drawn.name for drawn in node.names)
+            self.assertEqual(sorted(bound), sorted(set(bound)), path)
+
+    def test_no_two_files_draw_from_one_another(self):
+        drawn = {path.stem: [] for path in files()}
+        for path, node in nodes(ast.ImportFrom):
+            drawn[path.stem].append(node.module.split(".")[1])
+        # Files that draw from none that is left are taken away until none is left, or a ring is.
+        while drawn:
+            free = [stem for stem, sources in drawn.items() if not any(source in drawn for source in sources)]
+            self.assertTrue(free, drawn)
+            drawn = {stem: sources for stem, sources in drawn.items() if stem not in free}
+
+    def test_no_name_is_a_method_and_a_value(self):
+        methods = [made.name for path, node in nodes(ast.ClassDef) for made in node.body
+                   if isinstance(made, ast.FunctionDef)]
+        for path, node in nodes(ast.Attribute):
+            if isinstance(node.ctx, ast.Store):
+                self.assertNotIn(node.attr, methods, (path, node.lineno))
+
 
 if __name__ == "__main__":
     unittest.main()
